@@ -417,8 +417,8 @@ func (d *dice) scramble(image string) string {
 	return string(out)
 }
 
-// TestP1AtRandom looks at the bounds of every answer, and at P2: the same call later answers the same.
-func TestP1AtRandom(t *testing.T) {
+// TestP1AndP2AtRandom looks at the bounds of every answer, and at P2: the same call later answers the same.
+func TestP1AndP2AtRandom(t *testing.T) {
 	type answers struct {
 		image string
 		e     brew.Errno
