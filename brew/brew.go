@@ -1,7 +1,10 @@
 // Package brew: a small object language, the images it is compiled to, their checker and their machine: see DOC.md.
 package brew
 
-import "brew/table"
+import (
+	"brew/machine"
+	"brew/table"
+)
 
 // Errno is what a call answers: OK, the reason for a refusal, or why a run ended early.
 type Errno int
@@ -37,7 +40,17 @@ func Types(image string) (string, Errno) {
 }
 
 // Run runs an image (P8 to P13).
-func Run(image string, input string, cells int, fuel int) (string, int, Errno) { return "", 0, OK }
+func Run(image string, input string, cells int, fuel int) (string, int, Errno) {
+	if len(input) > maxInput || cells < 0 || cells > maxCells || fuel < 0 || fuel > maxFuel {
+		return "", 0, ErrLong
+	}
+	found := examine(image)
+	if found.errno != OK {
+		return "", 0, found.errno
+	}
+	out, answer, fault := machine.Run(found.text, found.tables, input, cells, fuel)
+	return out, answer, errnoOf(fault)
+}
 
 // Scan tells whether a source is well formed and typed (P14, P15).
 func Scan(source string) (Errno, int) { return OK, 0 }

@@ -3,14 +3,17 @@ package brew
 import (
 	"brew/code"
 	"brew/table"
+	"brew/text"
 )
 
 const maxImage = 2000
 
-// findings is what the checker has found out about an image. Only with OK are there tables, one for each body.
+// findings is what the checker has found out about an image. Only with OK are there a text and tables, one for
+// each body.
 type findings struct {
 	errno  Errno
 	place  int
+	text   *text.Text
 	tables []table.Table
 }
 
@@ -34,5 +37,5 @@ func examine(image string) findings {
 		}
 		tables = append(tables, least)
 	}
-	return findings{errno: OK, tables: tables}
+	return findings{errno: OK, text: read, tables: tables}
 }

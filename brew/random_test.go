@@ -171,7 +171,7 @@ func (m *model) allFit(x string, y string) bool {
 
 // least follows every way alone, and lets the states meet only then. Every table that holds has room for each way,
 // so this one is the least, if it holds.
-func (m *model) least(b *block) (string, bool) {
+func (m *model) least(b *block) ([]*state, bool) {
 	table := make([]*state, len(b.code))
 	type spot struct {
 		at int
@@ -185,13 +185,13 @@ func (m *model) least(b *block) (string, bool) {
 			first := now.s
 			table[now.at] = &first
 		} else if len(met.stack) != len(now.s.stack) {
-			return "", false
+			return nil, false
 		} else {
 			*met = state{m.meetingOfAll(met.stack, now.s.stack), m.meetingOfAll(met.locals, now.s.locals)}
 		}
 		s, next, fine := m.behind(b, now.at, now.s)
 		if !fine {
-			return "", false
+			return nil, false
 		}
 		for _, at := range next {
 			if there := (spot{at, s}); !seen[there] {
@@ -200,7 +200,7 @@ func (m *model) least(b *block) (string, bool) {
 			}
 		}
 	}
-	return m.written(b, table), m.holds(b, table)
+	return table, m.holds(b, table)
 }
 
 // holds is P5.
@@ -224,7 +224,7 @@ func (m *model) holds(b *block, table []*state) bool {
 	return true
 }
 
-func (m *model) written(b *block, table []*state) string {
+func written(table []*state) string {
 	out := ""
 	for _, s := range table {
 		if s == nil {
@@ -239,11 +239,11 @@ func (m *model) written(b *block, table []*state) string {
 func (m *model) expected() (string, brew.Errno, int) {
 	out := ""
 	for i, b := range m.bodies {
-		s, holds := m.least(b)
+		table, holds := m.least(b)
 		if !holds {
 			return "", brew.ErrType, i
 		}
-		out += s
+		out += written(table)
 	}
 	return out, brew.OK, 0
 }
@@ -321,13 +321,60 @@ func (m *model) every(b *block) []string {
 	return all
 }
 
+// value answers an instruction that lays what fits a type.
+func (m *model) value(d *dice, now state, asked byte) string {
+	all := []string{"k3", "r"}
+	if asked != 'i' {
+		all = []string{"z"}
+	}
+	for i := range m.parents {
+		if class := byte('A' + i); m.fits(class, asked) {
+			all = append(all, "n"+string(class), "n"+string(class))
+		}
+	}
+	for i := range now.locals {
+		if now.locals[i] != '-' && m.fits(now.locals[i], asked) {
+			in := fmt.Sprintf("l%d", i)
+			all = append(all, in, in, in)
+		}
+	}
+	return d.of(all)
+}
+
+// dealing answers instructions that call a method or change a field, or none.
+func (m *model) dealing(d *dice, now state) []string {
+	if len(m.parents) == 0 {
+		return nil
+	}
+	i := d.below(len(m.parents))
+	class := byte('A' + i)
+	object := m.value(d, now, class)
+	if n := d.below(3); n < len(m.methods) && m.has(class, n) {
+		return []string{object, m.value(d, now, m.methods[n][0]), fmt.Sprintf("c%c%d", class, n)}
+	}
+	if n := d.below(3); n < len(m.fields[i]) {
+		return []string{object, m.value(d, now, m.fields[i][n]), fmt.Sprintf("p%c%d", class, n)}
+	}
+	return nil
+}
+
 // fill goes along a straight way, and notes how high the stack is, so that most jumps can meet it.
 func (m *model) fill(d *dice, b *block) {
 	all := m.every(b)
 	now := state{"", b.locals}
 	heights := []int{}
+	planned := []string{}
 	for size := 3 + d.below(14); len(b.code) < size; {
+		if len(planned) == 0 && d.below(6) == 0 {
+			planned = m.dealing(d, now)
+		}
 		in := d.of(all)
+		if len(planned) > 0 {
+			in, planned = planned[0], planned[1:]
+			b.code, heights = append(b.code, in), append(heights, len(now.stack))
+			now, _, _ = m.behind(&block{code: []string{in, "t"}}, 0, now)
+			continue
+		}
 		if d.below(4) == 0 && len(now.stack) > 0 && now.stack[len(now.stack)-1] == 'i' {
 			in = "f??"
 		} else if d.below(40) == 0 {
@@ -424,6 +471,9 @@ func TestP1AndP2AtRandom(t *testing.T) {
 		e     brew.Errno
 		at    int
 		types string
+		out   string
+		value int
+		runE  brew.Errno
 	}
 	kept := []answers{}
 	d := &dice{2}
@@ -431,6 +481,7 @@ func TestP1AndP2AtRandom(t *testing.T) {
 		image := d.scramble(d.draw().image())
 		e, at := brew.Check(image)
 		types, typesE := brew.Types(image)
+		out, value, runE := brew.Run(image, image[:20%len(image)], 50, 200)
 		switch {
 		case e != typesE || (e == brew.OK) != (types != ""):
 			t.Fatalf("%q: Check answers %d, Types %q, %d", image, e, types, typesE)
@@ -438,17 +489,20 @@ func TestP1AndP2AtRandom(t *testing.T) {
 			t.Fatalf("Check(%q) = %d, %d", image, e, at)
 		case e == brew.OK && at != 0 || e == brew.ErrType && at > 6:
 			t.Fatalf("Check(%q) = %d, %d", image, e, at)
+		case e != brew.OK && (out != "" || value != 0 || runE != e) || e == brew.OK && runE != brew.OK && (runE < brew.ErrFuel || value != 0):
+			t.Fatalf("%q: Check answers %d, Run %q, %d, %d", image, e, out, value, runE)
 		case e == brew.ErrForm:
 			formPlace(t, image, at)
 		}
-		kept = append(kept, answers{image, e, at, types})
+		kept = append(kept, answers{image, e, at, types, out, value, runE})
 	}
 	for i := len(kept) - 1; i >= 0; i-- {
 		c := kept[i]
 		e, at := brew.Check(c.image)
 		types, _ := brew.Types(c.image)
-		if e != c.e || at != c.at || types != c.types {
-			t.Fatalf("P2: %q answered %d, %d, %q, and later %d, %d, %q", c.image, c.e, c.at, c.types, e, at, types)
+		out, value, runE := brew.Run(c.image, c.image[:20%len(c.image)], 50, 200)
+		if later := (answers{c.image, e, at, types, out, value, runE}); later != c {
+			t.Fatalf("P2: the answers were %v, and later %v", c, later)
 		}
 	}
 }
