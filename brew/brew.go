@@ -2,6 +2,8 @@
 package brew
 
 import (
+	"brew/compiler"
+	"brew/evaluator"
 	"brew/machine"
 	"brew/table"
 )
@@ -25,13 +27,13 @@ const (
 
 // Check tells whether an image can be run (P3 to P6).
 func Check(image string) (Errno, int) {
-	found := examine(image)
+	found := examineImage(image)
 	return found.errno, found.place
 }
 
 // Types writes the table of an image (P7).
 func Types(image string) (string, Errno) {
-	found := examine(image)
+	found := examineImage(image)
 	written := ""
 	for i := 0; i < len(found.tables); i++ {
 		written += table.Write(found.tables[i])
@@ -44,7 +46,7 @@ func Run(image string, input string, cells int, fuel int) (string, int, Errno) {
 	if len(input) > maxInput || cells < 0 || cells > maxCells || fuel < 0 || fuel > maxFuel {
 		return "", 0, ErrLong
 	}
-	found := examine(image)
+	found := examineImage(image)
 	if found.errno != OK {
 		return "", 0, found.errno
 	}
@@ -53,10 +55,29 @@ func Run(image string, input string, cells int, fuel int) (string, int, Errno) {
 }
 
 // Scan tells whether a source is well formed and typed (P14, P15).
-func Scan(source string) (Errno, int) { return OK, 0 }
+func Scan(source string) (Errno, int) {
+	found := examineSource(source)
+	return found.errno, found.place
+}
 
 // Eval works a source out (P16 to P19).
-func Eval(source string, input string, fuel int) (string, int, Errno) { return "", 0, OK }
+func Eval(source string, input string, fuel int) (string, int, Errno) {
+	if len(input) > maxInput || fuel < 0 || fuel > maxFuel {
+		return "", 0, ErrLong
+	}
+	found := examineSource(source)
+	if found.errno != OK {
+		return "", 0, found.errno
+	}
+	out, value, fault := evaluator.Eval(found.text, input, fuel)
+	return out, value, errnoOf(fault)
+}
 
 // Compile answers an image that does what a source says (P20, P21).
-func Compile(source string) (string, Errno) { return "", OK }
+func Compile(source string) (string, Errno) {
+	found := examineSource(source)
+	if found.errno != OK {
+		return "", found.errno
+	}
+	return compiler.Compile(found.text), OK
+}

@@ -15,59 +15,66 @@ const (
 // full is a text with as many bodies as there can be.
 const full = "-.-.;ii.ii.ii.;A0:l1t.A1:l1t.A2:l1t.B0:l1t.B1:l1t.B2:l1t."
 
+// heads tells, for what stands ahead of what is to be done, each byte that can stand behind it.
+var heads = []struct{ ahead, can string }{
+	{"", "-;"},
+	{"-", "iA."},
+	{"-i", "iA."},
+	{"-A", "iA."},
+	{"-ii", "."},
+	{"-.", "-A;"},
+	{"-.A", "iAB."},
+	{"-.Aii", "."},
+	{"-ii.A", "iAB."},
+	{"-.-.A", "iABC."},
+	{"-.A.B", "iABC."},
+	{"-.A.B.", "-ABC;"},
+	{"-.A.B.C", "iABCD."},
+	{"-.A.B.C.", ";"},
+	{";", "i;"},
+	{"-.-.;", "iAB;"},
+	{"-.;i", "iA"},
+	{";i", "i"},
+	{"-.;A", "iA"},
+	{"-.;ii", "."},
+	{";ii.", "i;"},
+	{";ii.ii.", "i;"},
+	{";ii.ii.ii.", ";"},
+	{";;", ";"},
+	{";ii.;", ";"},
+	{"-.;;", "A;"},
+	{"-.;;A", ""},
+	{"-.-.;ii.;", "AB;"},
+	{"-.;ii.;A", "0"},
+	{"-.;ii.ii.ii.;A", "012"},
+	{"-.;ii.ii.ii.;A1:l1t.A", "02"},
+	{"-.;ii.;A0:l1t.", "A;"},
+	{"-.;ii.;A0:l1t.A", ""},
+	{"-.-.;ii.;A0:l1t.B", "0"},
+	{"-.;ii.;A0", "iA:"},
+	{"-.-.;ii.;A0B", "iAB:"},
+	{"-.;ii.;A0iA", "iA:"},
+	{"-.;ii.;A0iii", ":"},
+	{strings.TrimSuffix(full, "B2:l1t."), "AB;"},
+	{full, ";"},
+	{full + ";", "iAB:"},
+	{";;;", "i:"},
+	{"-.-.;;;", "iAB:"},
+	{";;;ii", "i:"},
+	{";;;iii", ":"},
+}
+
 // TestP3EveryByte tells, for what stands ahead, each byte that can stand behind it.
 func TestP3EveryByte(t *testing.T) {
+	for _, c := range heads {
+		everyByte(t, brew.Check, c.ahead, c.can)
+	}
 	for _, c := range []struct{ ahead, can string }{
-		{"", "-;"},
-		{"-", "iA."},
-		{"-i", "iA."},
-		{"-A", "iA."},
-		{"-ii", "."},
-		{"-.", "-A;"},
-		{"-.A", "iAB."},
-		{"-.Aii", "."},
-		{"-ii.A", "iAB."},
-		{"-.-.A", "iABC."},
-		{"-.A.B", "iABC."},
-		{"-.A.B.", "-ABC;"},
-		{"-.A.B.C", "iABCD."},
-		{"-.A.B.C.", ";"},
-		{";", "i;"},
-		{"-.-.;", "iAB;"},
-		{"-.;i", "iA"},
-		{";i", "i"},
-		{"-.;A", "iA"},
-		{"-.;ii", "."},
-		{";ii.", "i;"},
-		{";ii.ii.", "i;"},
-		{";ii.ii.ii.", ";"},
-		{";;", ";"},
-		{";ii.;", ";"},
-		{"-.;;", "A;"},
-		{"-.;;A", ""},
-		{"-.-.;ii.;", "AB;"},
-		{"-.;ii.;A", "0"},
-		{"-.;ii.ii.ii.;A", "012"},
-		{"-.;ii.ii.ii.;A1:l1t.A", "02"},
-		{"-.;ii.;A0:l1t.", "A;"},
-		{"-.;ii.;A0:l1t.A", ""},
-		{"-.-.;ii.;A0:l1t.B", "0"},
-		{"-.;ii.;A0", "iA:"},
-		{"-.-.;ii.;A0B", "iAB:"},
-		{"-.;ii.;A0iA", "iA:"},
-		{"-.;ii.;A0iii", ":"},
 		{"-.;ii.;A0:", letters},
 		{"-.;ii.;A0:t", letters + "."},
 		{"-.;ii.;A0:l", "01"},
 		{"-.;ii.;A0i:l", "012"},
 		{"-.;ii.;A0iAi:s", "01234"},
-		{strings.TrimSuffix(full, "B2:l1t."), "AB;"},
-		{full, ";"},
-		{full + ";", "iAB:"},
-		{";;;", "i:"},
-		{"-.-.;;;", "iAB:"},
-		{";;;ii", "i:"},
-		{";;;iii", ":"},
 		{";;;:", letters},
 		{";;;:k", digits},
 		{";;;:k9", letters + "."},
@@ -102,21 +109,22 @@ func TestP3EveryByte(t *testing.T) {
 		{";;;:" + strings.Repeat("r", 100), "."},
 		{"-.;ii.;A0:" + strings.Repeat("r", 100), "."},
 	} {
-		everyByte(t, c.ahead, c.can)
+		everyByte(t, brew.Check, c.ahead, c.can)
 	}
 }
 
-func everyByte(t *testing.T, ahead string, can string) {
+// everyByte looks at what Check or Scan says of each byte behind what stands ahead.
+func everyByte(t *testing.T, call func(string) (brew.Errno, int), ahead string, can string) {
 	t.Helper()
-	if e, at := brew.Check(ahead); e != brew.ErrForm || at != len(ahead) {
-		t.Errorf("Check(%q), which ends too early, = %d, %d", ahead, e, at)
+	if e, at := call(ahead); e != brew.ErrForm || at != len(ahead) {
+		t.Errorf("of %q, which ends too early: %d, %d", ahead, e, at)
 	}
 	for b := 0; b < 256; b++ {
-		image := ahead + string([]byte{byte(b)})
-		e, at := brew.Check(image)
+		text := ahead + string([]byte{byte(b)})
+		e, at := call(text)
 		refused := e == brew.ErrForm && at == len(ahead)
 		if stands := strings.IndexByte(can, byte(b)) >= 0; stands == refused {
-			t.Errorf("Check(%q) = %d, %d, but that the last byte can stand there is %v", image, e, at, stands)
+			t.Errorf("of %q: %d, %d, but that the last byte can stand there is %v", text, e, at, stands)
 		}
 	}
 }

@@ -34,6 +34,11 @@ func TestLanguage(t *testing.T) {
 		if err != nil {
 			t.Fatal(err)
 		}
+		for _, declared := range file.Decls {
+			if list, isList := declared.(*ast.GenDecl); isList && list.Tok == token.VAR {
+				t.Errorf("%s: a package-level variable", files.Position(list.Pos()))
+			}
+		}
 		ast.Inspect(file, func(n ast.Node) bool {
 			if what := refused(files, n); what != "" {
 				t.Errorf("%s: %s", files.Position(n.Pos()), what)
@@ -61,6 +66,12 @@ func refused(files *token.FileSet, n ast.Node) string {
 		switch n.Name {
 		case "any", "error", "float32", "float64", "complex64", "complex128", "uintptr", "panic", "recover", "cap":
 			return n.Name
+		}
+	case *ast.AssignStmt:
+		for _, target := range n.Lhs {
+			if name, plain := target.(*ast.Ident); len(n.Lhs) > 1 && (!plain || name.Name == "_") {
+				return "an assignment to several targets, not all of them local variables"
+			}
 		}
 	case *ast.ImportSpec:
 		if path := n.Path.Value; path != `"strconv"` && !strings.HasPrefix(path, `"brew/`) {

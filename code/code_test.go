@@ -4,12 +4,13 @@ import (
 	"testing"
 
 	"brew/code"
+	"brew/text"
 )
 
 func TestRead(t *testing.T) {
 	image := "-i.;iA.;A0i:l2dl0t.;A:nAk1pA0rf01l0k4cA0dk9t."
 	k, place := code.Read(image)
-	if place != code.NoPlace || len(k.Bodies) != 2 {
+	if place != text.NoPlace || len(k.Bodies) != 2 {
 		t.Fatalf("%d bodies, fails at %d", len(k.Bodies), place)
 	}
 	letters := ""
@@ -45,17 +46,37 @@ func TestBrokenLink(t *testing.T) {
 		image string
 		place int
 	}{
-		{";;;:j00.", code.NoPlace},
+		{";;;:j00.", text.NoPlace},
 		{";;;:rj02.", 5},
 		{"-.;ii.;A0:f03rt.;:t.", 10},
 		{"-.;ii.;;:zrcA0t.", 11},
 	} {
 		k, place := code.Read(c.image)
-		if place != code.NoPlace {
+		if place != text.NoPlace {
 			t.Fatalf("%q fails at %d", c.image, place)
 		}
-		if got := code.BrokenLink(k); got != c.place {
+		if got := text.BrokenLink(k); got != c.place {
 			t.Errorf("%q: the link at %d", c.image, got)
+		}
+	}
+}
+
+// TestWrite writes images that have been read: they must be the same again.
+func TestWrite(t *testing.T) {
+	for _, image := range []string{
+		";;;:k0t.",
+		"-iA.Ai.-.Cii.;iA.BC.;A0iB:nBxAt.B1:l1xCt.C1ABC:zt.;BiA:nBs0l0k1pB0l0nApB1l0zcB1dl0gB2rf15zzetk1j99+-*/<=w.",
+	} {
+		read, place := code.Read(image)
+		if place != text.NoPlace {
+			t.Fatalf("%q fails at %d", image, place)
+		}
+		written := code.WriteBeginning(read)
+		for _, body := range read.Bodies {
+			written += code.WriteBody(body, body.Items)
+		}
+		if written != image {
+			t.Errorf("%q is written %q", image, written)
 		}
 	}
 }

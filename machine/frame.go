@@ -13,7 +13,7 @@ type frame struct {
 	body   text.Body
 	states []table.State
 	at     int // the instruction at hand; of a body that waits, its call
-	locals []world.Value
+	locals *world.Locals
 	stack  []world.Value
 }
 
@@ -47,19 +47,6 @@ func (f *frame) takeTop() world.Value {
 	return top
 }
 
-func (f *frame) local(number int) world.Value {
-	if number < 0 || number >= len(f.locals) {
-		return world.Value{}
-	}
-	return f.locals[number]
-}
-
-func (f *frame) setLocal(number int, value world.Value) {
-	if number >= 0 && number < len(f.locals) {
-		f.locals[number] = value
-	}
-}
-
 // goOn goes to an instruction if the condition is 0, else behind the one at hand.
 func (f *frame) goOn(target int, condition world.Value) {
 	if condition.Number == 0 {
@@ -77,7 +64,7 @@ func (f *frame) slots() []world.Value {
 	}
 	state := f.states[f.at]
 	onStack := usable(f.stack, state.Stack)
-	inLocals := usable(f.locals, state.Locals)
+	inLocals := usable(f.locals.Values, state.Locals)
 	return append(onStack, inLocals...)
 }
 

@@ -7,8 +7,6 @@ import (
 	"brew/world"
 )
 
-const maxFrames = 12
-
 // machine is one run.
 type machine struct {
 	text    *text.Text
@@ -66,9 +64,9 @@ func (m *machine) pass(f *frame, item text.Item, first world.Value, second world
 	laid, fault := world.Value{}, world.None
 	switch item.Letter {
 	case 'l':
-		laid = f.local(item.Number)
+		laid = f.locals.Get(item.Number)
 	case 's':
-		f.setLocal(item.Number, first)
+		f.locals.Set(item.Number, first)
 	default:
 		laid, fault = m.world.Do(item, first, second)
 	}
@@ -81,17 +79,13 @@ func (m *machine) pass(f *frame, item text.Item, first world.Value, second world
 
 // call begins the body that the object's own class has for a method. The caller's instruction at hand stays the call.
 func (m *machine) call(method int, object world.Value, argument world.Value) world.Fault {
-	class := m.world.Class(object)
-	if class == text.NoClass {
-		return world.Null
+	body, fault := m.world.Callee(object, method, m.current.depth)
+	if fault != world.None {
+		return fault
 	}
-	if m.current.depth >= maxFrames {
-		return world.Deep
-	}
-	body := m.text.BodyOf(class, method)
 	m.begin(body)
-	m.current.setLocal(0, object)
-	m.current.setLocal(1, argument)
+	m.current.locals.Set(0, object)
+	m.current.locals.Set(1, argument)
 	return world.None
 }
 
@@ -105,7 +99,7 @@ func (m *machine) begin(number int) {
 		begun.body = m.text.Bodies[number]
 		begun.states = m.tables[number].States
 	}
-	begun.locals = make([]world.Value, len(begun.body.Locals))
+	begun.locals = world.NewLocals(begun.body)
 	m.current = begun
 }
 

@@ -6,13 +6,14 @@ import (
 	"brew/code"
 	"brew/machine"
 	"brew/table"
+	"brew/text"
 	"brew/world"
 )
 
 func run(t *testing.T, image string, cells int, fuel int) (string, int, world.Fault) {
 	t.Helper()
 	read, place := code.Read(image)
-	if place != code.NoPlace {
+	if place != text.NoPlace {
 		t.Fatalf("%q fails at %d", image, place)
 	}
 	tables := []table.Table{}

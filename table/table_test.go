@@ -5,6 +5,7 @@ import (
 
 	"brew/code"
 	"brew/table"
+	"brew/text"
 )
 
 func TestLeast(t *testing.T) {
@@ -16,7 +17,7 @@ func TestLeast(t *testing.T) {
 		{"-.A.A.;;;:rf04nBj05nCdk0t.", "|,i|,|,B|,|,A|,|,i|,;"},
 	} {
 		k, place := code.Read(c.image)
-		if place != code.NoPlace {
+		if place != text.NoPlace {
 			t.Fatalf("%q fails at %d", c.image, place)
 		}
 		least, holds := table.Least(k, k.Bodies[0])

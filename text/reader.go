@@ -1,11 +1,16 @@
 package text
 
+// NoPlace stands where nothing is wrong.
+const NoPlace = -1
+
 // Reader reads the parts that images and sources share. Once it has failed it reads nothing more, so that
 // Place stays at the first byte that cannot stand there, or at the text's end.
 type Reader struct {
 	Text   Text
-	Place  int // of the byte that is read next
+	Body   Body // the one whose head has been read last
+	Place  int  // of the byte that is read next
 	Failed bool
+	inMain bool // Body is the main one
 	whole  string
 }
 
@@ -145,13 +150,22 @@ func (r *Reader) ReadMethods() {
 	r.Take(';')
 }
 
-// MoreBodies tells whether a body other than the main one is to be read.
-func (r *Reader) MoreBodies() bool {
-	return len(r.Text.Bodies) < maxBodies && r.Before(';')
+// NextBody reads the next body up to its colon, and tells whether there was one.
+func (r *Reader) NextBody() bool {
+	if r.inMain || r.Failed {
+		return false
+	}
+	if len(r.Text.Bodies) < maxBodies && r.Before(';') {
+		r.Body = r.takeHead()
+		return true
+	}
+	r.inMain = true
+	r.Take(';')
+	r.Body = r.takeMainHead()
+	return true
 }
 
-// TakeHead reads a body up to its colon.
-func (r *Reader) TakeHead() Body {
+func (r *Reader) takeHead() Body {
 	class := r.TakeClass()
 	place := r.Place
 	number := r.TakeDigit(len(r.Text.Methods))
@@ -165,20 +179,42 @@ func (r *Reader) TakeHead() Body {
 	return Body{Class: class, Method: number, Answer: method.Answer, Locals: locals}
 }
 
-// TakeMainHead reads the main body up to its colon.
-func (r *Reader) TakeMainHead() Body {
+func (r *Reader) takeMainHead() Body {
 	locals := r.takeTypes(maxLocals, len(r.Text.Classes), ':')
 	return Body{Class: NoClass, Answer: Number, Locals: locals}
 }
 
-// AddBody gives the text a body that has been read whole.
-func (r *Reader) AddBody(body Body) {
-	r.Text.Bodies = append(r.Text.Bodies, body)
+// TakeOperands reads what stands behind the letter of an item that deals with a local, a class, a field or a method.
+func (r *Reader) TakeOperands(item Item) Item {
+	switch item.Letter {
+	case 'l', 's':
+		item.Number = r.TakeDigit(len(r.Body.Locals))
+	case 'n', 'x':
+		item.Class = r.TakeClass()
+	case 'g', 'p':
+		item.Class = r.TakeClass()
+		fields := r.Text.FieldCount(item.Class)
+		item.Number = r.TakeDigit(fields)
+	case 'c':
+		item.Class = r.TakeClass()
+		item.Number = r.TakeDigit(len(r.Text.Methods))
+	default:
+		r.Refuse(item.Place)
+	}
+	return item
 }
 
-// TakeEnd fails if anything stands behind the main body.
-func (r *Reader) TakeEnd() {
-	if r.Place < len(r.whole) {
-		r.Failed = true
+// EndBody reads the dot behind a body, and gives the text that body with what is to be done in it.
+func (r *Reader) EndBody(items []Item) {
+	r.Take('.')
+	r.Body.Items = append([]Item{}, items...)
+	r.Text.Bodies = append(r.Text.Bodies, r.Body)
+}
+
+// Result answers the text and NoPlace, or the place of the first byte that cannot stand there.
+func (r *Reader) Result() (*Text, int) {
+	if r.Failed || r.Place < len(r.whole) {
+		return &Text{}, r.Place
 	}
+	return &r.Text, NoPlace
 }

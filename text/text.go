@@ -25,12 +25,14 @@ type Method struct {
 	Answer   byte
 }
 
-// Item is one thing to be done: an instruction of an image.
+// Item is one thing to be done: an instruction of an image, or a node of a source. A digit that is a node has the
+// letter of the instruction that lays it, `k`.
 type Item struct {
 	Place  int // of its letter in the text
 	Letter byte
-	Class  byte // if its letter asks for one
-	Number int  // if its letter asks for one
+	Class  byte  // if its letter asks for one
+	Number int   // if its letter asks for one
+	Parts  []int // of a node: the numbers of the items that are its parts, all greater than its own
 }
 
 // Body tells what is to be done for a method of a class, or, of the main one, for the whole text.
@@ -40,6 +42,14 @@ type Body struct {
 	Answer byte
 	Locals []byte // the types of all of them
 	Items  []Item
+}
+
+// ItemAt answers an item that does nothing for a number that is not there.
+func (b Body) ItemAt(number int) Item {
+	if number < 0 || number >= len(b.Items) {
+		return Item{Class: NoClass}
+	}
+	return b.Items[number]
 }
 
 // Text is an image or a source that has been read; its main body is the last one.
@@ -90,7 +100,7 @@ func (t *Text) FieldType(letter byte, field int) byte {
 	if index < 0 {
 		return Unusable
 	}
-	return typeAt(t.Classes[index].Fields, field)
+	return TypeAt(t.Classes[index].Fields, field)
 }
 
 // MethodAt answers a method that nothing suits for a number that is not there.
@@ -125,7 +135,8 @@ func (t *Text) BodyOf(class byte, method int) int {
 	return -1
 }
 
-func typeAt(types []byte, index int) byte {
+// TypeAt answers Unusable for a place that a list of types does not have.
+func TypeAt(types []byte, index int) byte {
 	if index < 0 || index >= len(types) {
 		return Unusable
 	}

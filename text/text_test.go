@@ -6,26 +6,24 @@ import (
 	"brew/text"
 )
 
-// read answers the classes, methods and heads of bodies of a text; each body is its head alone.
+// read answers what a text holds in whose bodies nothing is to be done.
 func read(t *testing.T, whole string) *text.Text {
 	t.Helper()
 	r := text.NewReader(whole)
 	r.ReadClasses()
 	r.ReadMethods()
-	for r.MoreBodies() {
-		body := r.TakeHead()
-		r.AddBody(body)
+	for r.NextBody() {
+		r.EndBody(nil)
 	}
-	r.Take(';')
-	r.TakeEnd()
-	if r.Failed {
-		t.Fatalf("%q fails at %d", whole, r.Place)
+	result, place := r.Result()
+	if place != text.NoPlace {
+		t.Fatalf("%q fails at %d", whole, place)
 	}
-	return &r.Text
+	return result
 }
 
 // C and D come from B, B from A.
-const family = "-i.AA.Bi.B.;iA.CD.;A0:B1iC:;"
+const family = "-i.AA.Bi.B.;iA.CD.;A0:.B1iC:.;:."
 
 func TestFits(t *testing.T) {
 	all := "izABCD-"
@@ -54,7 +52,7 @@ func TestMeeting(t *testing.T) {
 			t.Errorf("%c and %c meet at %c, not at %c", c[1], c[0], got, c[2])
 		}
 	}
-	apart := read(t, "-.-.A.B.;;;")
+	apart := read(t, "-.-.A.B.;;;:.")
 	for _, c := range []string{"AB-", "CD-", "ACA", "BDB", "AD-"} {
 		if got := apart.Meeting(c[0], c[1]); got != c[2] {
 			t.Errorf("%c and %c meet at %c, not at %c", c[0], c[1], got, c[2])
@@ -101,13 +99,26 @@ func TestBodies(t *testing.T) {
 
 // TestLate tells that a reader which has failed stays where it failed.
 func TestLate(t *testing.T) {
-	r := text.NewReader("-x.;;;")
+	r := text.NewReader("-x.;;;:.")
 	r.ReadClasses()
 	r.ReadMethods()
-	r.TakeHead()
-	r.TakeMainHead()
-	r.TakeEnd()
-	if !r.Failed || r.Place != 1 || r.MoreBodies() {
-		t.Errorf("%v at %d", r.Failed, r.Place)
+	if r.NextBody() {
+		t.Error("a body is read behind what cannot stand there")
+	}
+	r.EndBody(nil)
+	if _, place := r.Result(); !r.Failed || place != 1 {
+		t.Errorf("%v at %d", r.Failed, place)
+	}
+}
+
+func TestItemAt(t *testing.T) {
+	body := text.Body{Items: []text.Item{{Letter: 'r'}, {Letter: 't'}}}
+	for number, letter := range []byte{'r', 't', 0} {
+		if got := body.ItemAt(number); got.Letter != letter {
+			t.Errorf("item %d has the letter %q", number, got.Letter)
+		}
+	}
+	if got := body.ItemAt(-1); got.Letter != 0 {
+		t.Errorf("item -1 has the letter %q", got.Letter)
 	}
 }

@@ -91,7 +91,7 @@ func (t *Text) Lays(item Item, locals []byte) byte {
 	case 'k', 'r', '+', '-', '*', '/', '<', '=', 'e':
 		return Number
 	case 'l':
-		return typeAt(locals, item.Number)
+		return TypeAt(locals, item.Number)
 	case 'n', 'x':
 		return item.Class
 	case 'z':

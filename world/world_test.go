@@ -11,7 +11,7 @@ import (
 func newWorld(t *testing.T, classes string, input string) *world.World {
 	t.Helper()
 	read, place := code.Read(classes + ";;;:k0t.")
-	if place != code.NoPlace {
+	if place != text.NoPlace {
 		t.Fatalf("%q fails at %d", classes, place)
 	}
 	return world.New(read, input)
@@ -96,6 +96,38 @@ func TestReached(t *testing.T) {
 	} {
 		if cells := w.Reached(k.from); cells != k.cells {
 			t.Errorf("%v lead to %d cells, not %d", k.from, cells, k.cells)
+		}
+	}
+}
+
+func TestCallee(t *testing.T) {
+	read, _ := code.Read("-.A.;ii.;A0:l1t.B0:l1t.;:k0t.")
+	w := world.New(read, "")
+	null := world.Value{}
+	object := do(t, w, item('n', 'B', 0), null, null)
+	for _, c := range []struct {
+		object world.Value
+		begun  int
+		fault  world.Fault
+	}{
+		{object, 1, world.None}, {object, 11, world.None}, {object, 12, world.Deep}, {null, 1, world.Null}, {null, 12, world.Null},
+	} {
+		body, fault := w.Callee(c.object, 0, c.begun)
+		if fault != c.fault || fault == world.None && body != 1 {
+			t.Errorf("a call of %v while %d bodies have begun: body %d, fault %d", c.object, c.begun, body, fault)
+		}
+	}
+}
+
+func TestLocals(t *testing.T) {
+	locals := world.NewLocals(text.Body{Locals: []byte("iA")})
+	one := world.Value{Number: 1}
+	locals.Set(1, one)
+	locals.Set(2, one)
+	locals.Set(-1, one)
+	for number, want := range []world.Value{{}, one, {}} {
+		if got := locals.Get(number); got != want {
+			t.Errorf("local %d holds %v", number, got)
 		}
 	}
 }
