@@ -27,7 +27,8 @@ func takeNodes(r *text.Reader) []text.Item {
 		missing += countParts(node.Letter) - 1
 	}
 	if missing > 0 {
-		r.Refuse(r.Place)
+		place := r.Place
+		r.Refuse(place)
 	}
 	return withParts(nodes)
 }
